@@ -16,3 +16,8 @@ func Host(h api.Host) api.Host {
 func Guest(g api.Guest) api.Guest {
 	return api.Guest{Host: Host(g.Host), Base: g.Base, Pages: slices.Concat(g.Pages)}
 }
+
+// Space is a space with a memory of its own.
+func Space(s api.Space) api.Space {
+	return api.Space{Guest: Guest(s.Guest), Start: s.Start, End: s.End}
+}

@@ -35,11 +35,16 @@ func TestOwnMemory(t *testing.T) {
 	given := sample()
 	scribble(Guest(given))
 	scribble(api.Guest{Host: Host(given.Host)})
+	scribble(Space(api.Space{Guest: given}).Guest)
 	if !equal(given, sample()) {
 		t.Errorf("what was given changed: %v", given)
 	}
 	g, h := Guest(given), Host(given.Host)
+	s := Space(api.Space{Guest: given, Start: 4096, End: 4097})
 	scribble(given)
+	if !equal(s.Guest, sample()) || s.Start != 4096 || s.End != 4097 {
+		t.Errorf("Space: %v", s)
+	}
 	if !equal(g, sample()) {
 		t.Errorf("Guest: %v", g)
 	}
